@@ -14,7 +14,7 @@ const some = Set(1<<0 | 1<<2 | 1<<3)
 // most are the greatest numbers of the five.
 var most = []int{api.MaxNum, 9, 7, 1, 9}
 
-// P4.1, P5.1, P6.1: the places of a set.
+// P4.1, P5.1, P6.1, P7.1: the places of a set.
 func TestHas(t *testing.T) {
 	for place, want := range []bool{true, false, true, true, false, false} {
 		if some.Has(place) != want {
@@ -31,7 +31,7 @@ func TestHas(t *testing.T) {
 	}
 }
 
-// P4.1, P5.1, P6.1: numbers in their limits, and 0 where they aren't named.
+// P4.1, P5.1, P6.1, P7.1: numbers in their limits, and 0 where they aren't named.
 func TestMay(t *testing.T) {
 	for _, row := range [][]int{{0, 0, 0, 0, 0}, {api.MaxNum, 0, 7, 1, 0}, {1, 0, 2, 0, 0}} {
 		if !some.May(row, most) {
@@ -49,7 +49,7 @@ func TestMay(t *testing.T) {
 	}
 }
 
-// P4.1, P5.1, P6.1: the bytes of a kind and its numbers, there and back.
+// P4.1, P5.1, P6.1, P7.1: the bytes of a kind and its numbers, there and back.
 func TestPut(t *testing.T) {
 	for _, c := range []struct {
 		set  Set
@@ -75,7 +75,7 @@ func TestPut(t *testing.T) {
 	}
 }
 
-// P4.1, P5.1, P6.1: numbers that are cut, or none; beside the error all is zero.
+// P4.1, P5.1, P6.1, P7.1: numbers that are cut, or none; beside the error all is zero.
 func TestGetErrors(t *testing.T) {
 	for _, c := range []struct {
 		s    string
