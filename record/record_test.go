@@ -273,32 +273,6 @@ func TestMaxEvent(t *testing.T) {
 	}
 }
 
-// P9.1: a body and its hash's name are at most SectorSize bytes.
-func TestSectorSize(t *testing.T) {
-	for _, name := range []int{0, 1, 255, 256, 65535, 65536, api.MaxNum} {
-		last := num(name)
-		most := api.SectorSize - len(last)
-		for n := range api.SectorSize + 10 {
-			body := strings.Repeat("x", n)
-			s, is := fill(body, name)
-			if n <= most && (s != filled(body+last) || !is) {
-				t.Errorf("fill of %d bytes, %d: %x, %v", n, name, s, is)
-			}
-			if n > most && (s != "" || is) {
-				t.Errorf("fill of %d bytes, %d: %x, %v, want none", n, name, s, is)
-			}
-		}
-		if s, is := fill(strings.Repeat("x", 1<<20), name); s != "" || is {
-			t.Errorf("fill of a long body, %d: %x, %v", name, s, is)
-		}
-	}
-	for _, name := range []int{-1, math.MinInt, api.MaxNum + 1, math.MaxInt} {
-		if s, is := fill("x", name); s != "" || is {
-			t.Errorf("fill of %d: %x, %v", name, s, is)
-		}
-	}
-}
-
 // P9.1: a book that is full refuses what it has not, and names what it has.
 func TestFull(t *testing.T) {
 	for _, most := range []int{1, 2, 3, 256} {
