@@ -2,10 +2,12 @@
 package field
 
 import (
+	"errors"
 	"math/bits"
 	"strings"
 
 	"bastion/api"
+	"bastion/fault"
 )
 
 // mostBytes is how many bytes may follow a number's first one.
@@ -65,23 +67,23 @@ func appendNum(out []byte, x int) []byte {
 // readNum is GetNum with an error that tells the place.
 func readNum(s string, at int) (int, int, error) {
 	if at < 0 || at > len(s) {
-		return 0, 0, &fault{"number", at, api.ErrFieldForm}
+		return 0, 0, fault.New("number", at, api.ErrFieldForm)
 	}
 	if at == len(s) {
-		return 0, 0, &fault{"number", at, api.ErrFieldCut}
+		return 0, 0, fault.New("number", at, api.ErrFieldCut)
 	}
 	n := int(s[at])
 	if n > mostBytes {
-		return 0, 0, &fault{"number", at, api.ErrFieldForm}
+		return 0, 0, fault.New("number", at, api.ErrFieldForm)
 	}
 	from := at + 1
 	if len(s)-from < n {
-		return 0, 0, &fault{"number", at, api.ErrFieldCut}
+		return 0, 0, fault.New("number", at, api.ErrFieldCut)
 	}
 	to := from + n
 	x := sum(s[from:to])
 	if n > 0 && s[from] == 0 || x > api.MaxNum {
-		return 0, 0, &fault{"number", at, api.ErrFieldForm}
+		return 0, 0, fault.New("number", at, api.ErrFieldForm)
 	}
 	return int(x), to, nil
 }
@@ -111,15 +113,24 @@ func sum(s string) uint32 {
 func readText(s string, at int) (string, int, error) {
 	n, from, err := readNum(s, at)
 	if err != nil {
-		return "", 0, &fault{"text", at, err}
+		return "", 0, fault.New("text", at, err)
 	}
 	if n > api.MaxText {
-		return "", 0, &fault{"text", at, api.ErrFieldForm}
+		return "", 0, fault.New("text", at, api.ErrFieldForm)
 	}
 	if len(s)-from < n {
-		return "", 0, &fault{"text", at, api.ErrFieldCut}
+		return "", 0, fault.New("text", at, api.ErrFieldCut)
 	}
 	to := from + n
 	// A piece of s would share its memory.
 	return strings.Clone(s[from:to]), to, nil
+}
+
+// errno gives the error's number, however deep it is wrapped.
+func errno(err error) api.Errno {
+	var e api.Errno
+	if errors.As(err, &e) {
+		return e
+	}
+	return api.OK
 }
